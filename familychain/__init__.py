@@ -1,0 +1,1 @@
+"""A family of words as a chain of places, in exact fractions."""
