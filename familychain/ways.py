@@ -1,8 +1,9 @@
-"""All ways through a chain that make a word, gathered from the end back.
+"""All ways through a chain that make a word, gathered from the end back, and from the beginning on.
 
 A fraction is a pair of whole numbers, always in lowest terms, so that two are the same just when their pairs are.
 A state is its sort and its place. A spot is a state's sort, its place, and how many letters are made when one is
-there; the end is the spot of sort 0 behind the last place with all letters made.
+there; the end is the spot of sort 0 behind the last place with all letters made. A letter of a word that is None
+may be any of the four.
 """
 
 ZERO = (0, 1)
@@ -31,6 +32,10 @@ def plus(one, other):
     return fraction(one[0] * other[1] + other[0] * one[1], one[1] * other[1])
 
 
+def divided(one, other):
+    return fraction(one[0] * other[1], one[1] * other[0])
+
+
 def is_less(one, other):
     return one[0] * other[1] < other[0] * one[1]
 
@@ -40,6 +45,11 @@ def states_of(last):
     for place in range(1, last + 1):
         states.extend([(0, place), (1, place), (2, place)])
     return states
+
+
+# All states of sort 1 have the letter weights that are kept at place 0, as the beginning makes no letter itself.
+def letters_place(sort, place):
+    return place if sort == 0 else 0
 
 
 class Rest:
@@ -86,8 +96,11 @@ def arrival_chance(chain, word, target):
         return ONE if made == len(word) else ZERO
     if made > len(word):
         return ZERO
-    weights = chain.letters[place] if sort == 0 else chain.letters[0]
-    return fraction(weights[word[made - 1]], sum(weights))
+    letter = word[made - 1]
+    if letter is None:
+        return ONE
+    weights = chain.letters[letters_place(sort, place)]
+    return fraction(weights[letter], sum(weights))
 
 
 def steps_from(chain, word, spot):
@@ -122,3 +135,29 @@ def best_states(rests):
         states.append((spot[0], spot[1]))
         spot = rests[spot].target
     return states
+
+
+def reaches_of(chain, word):
+    reaches = {BEGINNING: ONE}
+    # The order of rests_of turned round: all that leads to a spot is gathered before one goes on from it.
+    for made in range(len(word) + 1):
+        for state in states_of(chain.last):
+            spot = (state[0], state[1], made)
+            reached = reaches.get(spot, ZERO)
+            for chance, target in steps_from(chain, word, spot):
+                reaches[target] = plus(reaches.get(target, ZERO), times(reached, chance))
+    return reaches
+
+
+def makers_of(chain, word, at):
+    rests = rests_of(chain, word)
+    reaches = reaches_of(chain, word)
+    makers = []
+    for state in states_of(chain.last):
+        # A state makes its letter as one comes to it, so it made letter `at` if at + 1 are made there; but one of
+        # sort 2 makes none.
+        spot = (state[0], state[1], at + 1)
+        chance = times(reaches.get(spot, ZERO), rests[spot].total)
+        if state[0] != 2 and chance != ZERO:
+            makers.append((state, divided(chance, rests[BEGINNING].total)))
+    return makers

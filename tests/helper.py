@@ -35,6 +35,26 @@ def count(*word):
     return [5, len(word), *word]
 
 
+def place(i, *word):
+    return [6, i, len(word), *word]
+
+
+def lengths(n):
+    return [7, n]
+
+
+def learn(*word):
+    return [8, len(word), *word]
+
+
+def take():
+    return [9]
+
+
+def shows():
+    return [10]
+
+
 def taken_apart(given):
     parts = []
     at = 0
@@ -48,12 +68,27 @@ def taken_apart(given):
     return parts
 
 
+def flat(rows):
+    return [number for row in rows for number in row]
+
+
 def ask(*calls):
-    return taken_apart(answers([number for call in calls for number in call]))
+    return taken_apart(answers(flat(calls)))
 
 
 def last_of(*calls):
     return ask(*calls)[-1]
+
+
+# A chain of k places with weights drawn everywhere; where the document refuses those of a state, it keeps its own.
+def drawn_setting(draw, k, weights):
+    setting = [start(k)]
+    for i in range(k + 1):
+        setting.append(letters(i, *[draw.choice(weights) for letter in range(4)]))
+        for sort in range(3):
+            leaving = 0 if i == k else draw.choice(weights)
+            setting.append(moves(sort, i, draw.choice(weights), draw.choice(weights), leaving))
+    return setting
 
 
 class Listing:
@@ -67,7 +102,9 @@ class Listing:
         self.letters = {i: [1, 1, 1, 1] for i in range(k + 1)}
         self.moves = {(sort, i): [1, 1, 0 if i == k else 1]
                       for i in range(k + 1) for sort in range(3) if (sort, i) != (2, 0)}
+        self.learnt = []
 
+    # A letter None may be any.
     def ways(self, word):
         found = []
         self.go(word, (0, 0), 0, Fraction(1), [], found)
@@ -90,7 +127,8 @@ class Listing:
                 if made == len(word):
                     continue
                 at_work = self.letters[following[1] if move == 0 else 0]
-                after *= Fraction(at_work[word[made]], sum(at_work))
+                if word[made] is not None:
+                    after *= Fraction(at_work[word[made]], sum(at_work))
                 now_made = made + 1
             if after > 0:
                 self.go(word, following, now_made, after, states + [following], found)
@@ -109,9 +147,56 @@ class Listing:
         most = max(way[0] for way in ways)
         likeliest = [states for chance, states in ways if chance == most]
         # Of two ways of one word none is the other's beginning, and up to where they differ their places are the same.
-        first = min(likeliest, key=lambda states: [sort for sort, place in states])
-        flat = [number for state in first for number in state]
-        return [1, most.numerator, most.denominator, len(likeliest), len(first), *flat]
+        first = min(likeliest, key=lambda states: [sort for sort, i in states])
+        return [1, most.numerator, most.denominator, len(likeliest), len(first), *flat(first)]
+
+    def place(self, i, word):
+        if i >= len(word):
+            return [-1]
+        ways = self.ways(word)
+        if not ways:
+            return [-6]
+        whole = sum(chance for chance, states in ways)
+        makers = {}
+        for chance, states in ways:
+            maker = [state for state in states if state[0] != 2][i]
+            makers[maker] = makers.get(maker, Fraction(0)) + chance / whole
+        answer = [len(makers)]
+        for maker in sorted(makers, key=lambda state: (state[1], state[0])):
+            answer += [*maker, makers[maker].numerator, makers[maker].denominator]
+        return answer
+
+    def lengths(self, n):
+        return [-1] if n > 8 else self.total([None] * n)
+
+    def moves_counted(self):
+        return sum(len(states) + 1 for word, states in self.learnt)
+
+    def learn(self, word):
+        best = self.best(word)
+        if best == [0]:
+            return [-6]
+        states = list(zip(best[5::2], best[6::2]))
+        if self.moves_counted() + len(states) > 90:
+            return [-5]
+        self.learnt.append((list(word), states))
+        return [len(states), *flat(states)]
+
+    def take(self):
+        counted = self.moves_counted()
+        learnt = self.learnt
+        self.begin(self.k)
+        for word, states in learnt:
+            for state, following in zip([(0, 0), *states], [*states, (0, self.k + 1)]):
+                self.moves[state][following[0]] += 1
+            for letter, (sort, i) in zip(word, [state for state in states if state[0] != 2]):
+                self.letters[i if sort == 0 else 0][letter] += 1
+        return [counted]
+
+    def shows(self):
+        rows = [self.letters[i] for i in range(1, self.k + 1)] + [self.letters[0]]
+        rows += [self.moves[state] for state in sorted(self.moves, key=lambda state: (state[1], state[0]))]
+        return [self.k, *flat(rows)]
 
     # What the document answers to one call of those written out above, the chain being changed by it.
     def answer(self, call):
@@ -122,10 +207,16 @@ class Listing:
             return self.answer_letters(call[1], call[3:])
         if number == 2:
             return self.answer_moves(tuple(call[1:3]), call[3:])
-        word = call[2:]
+        if number == 7:
+            return self.lengths(call[1])
+        if number in (9, 10):
+            return self.take() if number == 9 else self.shows()
+        word = call[3:] if number == 6 else call[2:]
         if len(word) > 5 or any(letter > 3 for letter in word):
             return [-1]
-        return {3: self.total, 4: self.best, 5: self.count}[number](word)
+        if number == 6:
+            return self.place(call[1], word)
+        return {3: self.total, 4: self.best, 5: self.count, 8: self.learn}[number](word)
 
     def answer_start(self, k):
         if k not in (1, 2, 3, 4):

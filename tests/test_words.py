@@ -6,7 +6,7 @@ from fractions import Fraction
 from itertools import product
 from math import comb
 
-from tests.helper import Listing, ask, best, count, last_of, letters, moves, start, total
+from tests.helper import Listing, ask, best, count, drawn_setting, last_of, letters, moves, start, total
 
 
 def asked_of(word):
@@ -119,22 +119,12 @@ class SeveralBestTest(unittest.TestCase):
 
 class AgainstTheListingTest(unittest.TestCase):
 
-    def drawn_chain(self, draw, weights):
-        k = draw.randint(1, 4)
-        listing = Listing(k)
-        calls = [start(k)]
-        for i in range(k + 1):
-            calls.append(letters(i, *[draw.choice(weights) for letter in range(4)]))
-            for sort in range(3):
-                leaving = 0 if i == k else draw.choice(weights)
-                calls.append(moves(sort, i, draw.choice(weights), draw.choice(weights), leaving))
-        return listing, calls
-
     def check_drawn(self, seed, weights):
         draw = random.Random(seed)
         tied = 0
         for chain in range(60):
-            listing, calls = self.drawn_chain(draw, weights)
+            listing = Listing()
+            calls = drawn_setting(draw, draw.randint(1, 4), weights)
             for n in range(6):
                 calls.extend(asked_of([draw.randrange(4) for letter in range(n)]))
             expected = [listing.answer(call) for call in calls]
